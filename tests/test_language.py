@@ -8,6 +8,7 @@ import unittest
 FOLDER = pathlib.Path(__file__).resolve().parent.parent / "whoevermay"
 FILES = sorted(FOLDER.glob("**/*.py"))
 
+LIBRARY = {"itertools": {"combinations"}}
 BUILTINS = set("""len range enumerate zip min max sum abs sorted reversed int str bool list tuple dict set isinstance ord
 repr any all divmod Exception ValueError TypeError KeyError IndexError LookupError super property""".split())
 METHODS = set("""append clear copy count endswith extend find get index insert isalnum isalpha isdigit islower isspace
@@ -30,6 +31,12 @@ INTERFACE = {
     "notation": {"format_charter": None, "parse_charter": None},
     "organisations": {"check_trusted": None, "check_goal": None, "run": None,
                       "Organisation": ["people", "holds", "holders", "copy", "can_do", "do", "meets"]},
+    "histories": {"History": ["__init__", "length", "at", "first_moment", "spans", "joined", "givers"]},
+    "reach": {"Plan": ["__init__"], "can_come": None, "fewest_steps": None, "closed_list": None, "check_closed": None},
+    "plans": {name: None for name in ["check_plan", "shortened", "steps_of", "taking_part", "joins_first", "plan_text",
+                                      "parse_plan"]},
+    "questions": {name: None for name in ["who_can", "together", "reachable_types", "needed_rules", "cuts", "trust_cuts",
+                                          "idle_rules"]},
 }
 
 
@@ -67,7 +74,9 @@ class Language(unittest.TestCase):
     def test_imports_name_the_file_that_defines(self):
         for path, tree in self.each():
             for node in ast.walk(tree):
-                if isinstance(node, ast.ImportFrom):
+                if isinstance(node, ast.ImportFrom) and node.module in LIBRARY:
+                    self.assertLessEqual({alias.name for alias in node.names}, LIBRARY[node.module])
+                elif isinstance(node, ast.ImportFrom):
                     self.assertEqual((node.level, node.module.split(".")[0]), (0, "whoevermay"))
                     source = tree_of(FOLDER / (node.module.split(".")[1] + ".py")).body
                     plain = [row.targets[0].id for row in source if isinstance(row, ast.Assign)]
@@ -76,7 +85,8 @@ class Language(unittest.TestCase):
                         self.assertIsNone(alias.asname)
 
     def test_no_two_files_import_each_other(self):
-        after = {path.stem: {node.module.split(".")[1] for node in ast.walk(tree) if isinstance(node, ast.ImportFrom)}
+        after = {path.stem: {node.module.split(".")[1] for node in ast.walk(tree)
+                             if isinstance(node, ast.ImportFrom) and node.module not in LIBRARY}
                  for path, tree in self.each()}
         while after:
             free = [name for name, sources in after.items() if not sources & set(after)]

@@ -2,7 +2,7 @@
 
 from whoevermay.charters import is_name
 from whoevermay.errors import InvalidAction, InvalidGoal, UnknownName
-from whoevermay.terms import TARGETED, actor_terms, can_choose, fits, target_terms
+from whoevermay.terms import TARGETED, actor_terms, choose, fits, target_terms
 
 
 def check_trusted(charter, trusted):
@@ -128,7 +128,7 @@ class Organisation:
     def meets(self, goal):
         """Whether different people meet the demands of the goal."""
         check_goal(self.charter, goal)
-        return can_choose([self._who_meets(demand) for demand in goal])
+        return choose([self._who_meets(demand) for demand in goal]) is not None
 
     def _who_meets(self, demand):
         """The names of those who meet the demand."""

@@ -29,11 +29,22 @@ def fits(held, holds, lacks):
     return all(right in held for right in holds) and not any(right in held for right in lacks)
 
 
-def can_choose(choices, taken=()):
-    """Whether different things can be chosen, one of each list, the first ones being taken."""
-    if len(taken) == len(choices):
-        return True
-    for one in choices[len(taken)]:
-        if one not in taken and can_choose(choices, (*taken, one)):
-            return True
+def choose(choices):
+    """Different things, one of each list in the order of the lists, or None if there are no such things."""
+    places = {}
+    for place in range(len(choices)):
+        if not _can_place(place, choices, places, {}):
+            return None
+    chosen = {place: one for one, place in places.items()}
+    return [chosen[place] for place in range(len(choices))]
+
+
+def _can_place(place, choices, places, tried):
+    """Choose a thing of the list at this place, if need be by choosing others anew for the lists ahead of it."""
+    for one in choices[place]:
+        if one not in tried:
+            tried[one] = True
+            if one not in places or _can_place(places[one], choices, places, tried):
+                places[one] = place
+                return True
     return False
