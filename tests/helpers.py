@@ -3,10 +3,21 @@
 import itertools
 
 from whoevermay.charters import Charter
+from whoevermay.errors import TooMany, UnknownName
 from whoevermay.organisations import Organisation
 
 RIGHTS = ["a", "b", "c", "d", "e", "f"]
 PEOPLE = ["ann", "bob", "cid", "dan", "eve"]
+
+
+def told(ask):
+    """What is answered, or the error in words."""
+    try:
+        return ask()
+    except TooMany as error:
+        return f"too many for {error.limit}"
+    except UnknownName as error:
+        return f"unknown name {error.name}"
 
 
 def part_of(rng, words, share):

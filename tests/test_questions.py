@@ -5,7 +5,7 @@ import itertools
 import random
 import unittest
 
-from helpers import draw_charter, draw_goal, draw_trusted, goal_met_by, walk
+from helpers import draw_charter, draw_goal, draw_trusted, goal_met_by, told, walk
 from whoevermay.charters import Charter
 from whoevermay.errors import InvalidGoal, InvalidQuestion, TooMany, UnknownName
 from whoevermay.questions import cuts, idle_rules, needed_rules, reachable_types, together, trust_cuts, who_can
@@ -328,16 +328,9 @@ class ByTheWords:
 
 
 class Drawn(unittest.TestCase):
-    def told(self, ask):
-        """The answer, or the limit of TooMany in words."""
-        try:
-            return ask()
-        except TooMany as error:
-            return f"too many for {error.limit}"
-
     def assert_same(self, ask, by_words):
-        answer = self.told(ask)
-        self.assertEqual(answer, self.told(by_words))
+        answer = told(ask)
+        self.assertEqual(answer, told(by_words))
         return answer
 
     def test_drawn_charters(self):

@@ -2,6 +2,7 @@
 
 from whoevermay.charters import LISTS, Charter, is_name
 from whoevermay.errors import InvalidNotation
+from whoevermay.wording import parted
 
 
 def format_charter(charter):
@@ -34,10 +35,9 @@ def parse_charter(text):
     founders = []
     rules = []
     for row in rows[2:]:
-        groups = _groups(row)
-        lists = groups[1:]
+        ahead, *lists = parted(row[1:], ":")
         # Founders and joins have no right behind their name.
-        name, *right = groups[0]
+        name, *right = ahead
         if row[0] == "founder":
             founders.append((name, lists[0]))
         else:
@@ -67,7 +67,7 @@ def _first_words(rows, at):
 
 def _has_form(row):
     """Whether the line, which begins with a known word, has the form of its kind."""
-    groups = _groups(row)
+    groups = parted(row[1:], ":")
     if not all(is_name(word) for group in groups for word in group):
         return False
     if row[0] in ("rights", "sole"):
@@ -75,14 +75,3 @@ def _has_form(row):
     lists = 1 if row[0] == "founder" else LISTS[row[0]]
     ahead = 1 if row[0] in ("founder", "join") else 2
     return len(groups) == 1 + lists and len(groups[0]) == ahead
-
-
-def _groups(row):
-    """The words behind the first one, in a list for each part between colons."""
-    groups = [[]]
-    for word in row[1:]:
-        if word == ":":
-            groups.append([])
-        else:
-            groups[-1].append(word)
-    return groups

@@ -62,13 +62,25 @@ def joins_first(charter, actions):
     return joins + [action for action in actions if not _is_join(charter, action)]
 
 
-def plan_text(actions):
-    """The written form of the actions."""
+def plan_lines(actions):
+    """The lines of the written form of the actions."""
     lines = []
     for name, actor, target in actions:
         words = [name, actor] if target is None else [name, actor, target]
         lines.append(" ".join(words))
-    return "\n".join(lines)
+    return lines
+
+
+def plan_text(actions):
+    """The written form of the actions."""
+    return "\n".join(plan_lines(actions))
+
+
+def action_of(words):
+    """The action of the words of a line, or None if they are no line of a written form."""
+    if len(words) not in (2, 3) or not all(is_name(word) for word in words):
+        return None
+    return (words[0], words[1], words[2] if len(words) == 3 else None)
 
 
 def parse_plan(text):
@@ -76,11 +88,7 @@ def parse_plan(text):
     # No action has the empty text, while a line has at least two words.
     if text == "":
         return []
-    actions = []
-    for at, line in enumerate(text.split("\n")):
-        words = line.split(" ")
-        if len(words) not in (2, 3) or not all(is_name(word) for word in words):
-            raise InvalidNotation(at + 1)
-        target = words[2] if len(words) == 3 else None
-        actions.append((words[0], words[1], target))
+    actions = [action_of(line.split(" ")) for line in text.split("\n")]
+    if None in actions:
+        raise InvalidNotation(actions.index(None) + 1)
     return actions

@@ -34,6 +34,11 @@ def fewest_steps(charter, goal, *, trusted=(), limit=2000):
     return search.fewest() if search.is_reached() else None
 
 
+def is_never(charter, goal, trusted, limit):
+    """Whether the goal is never reached."""
+    return not _searched(charter, goal, trusted, limit).is_reached()
+
+
 def closed_list(charter, goal, *, trusted=(), limit=2000):
     """Markings that show that the goal is never reached, or None if it is reached."""
     search = _searched(charter, goal, trusted, limit)
