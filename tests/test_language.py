@@ -37,6 +37,18 @@ INTERFACE = {
                                       "parse_plan"]},
     "questions": {name: None for name in ["who_can", "together", "reachable_types", "needed_rules", "cuts", "trust_cuts",
                                           "idle_rules"]},
+    "crowds": {"most_at_once": None, "needed_founders": None, "least_steps": None},
+    "bench": {"decide": None, "Workbench": ["__init__", "set_charter", "remove_charter", "set_rule", "remove_rule", "ask", "drop",
+                                            "undo", "redo", "change_all", "charter_names", "question_names", "charter", "question",
+                                            "answer", "answers"]},
+    "commands": {"split_words": None, "goal_of": None, "is_command": None},
+    "session": {"Session": ["__init__", "run"]},
+    "certificates": {"certificate": None, "check_certificate": None},
+    "amendments": {"newly_held": None, "no_longer_held": None, "opened_by": None, "closed_by": None},
+    "ledgers": {"Grant": ["__init__"],
+                "Ledger": ["__init__", "grants", "taken_back", "owner", "standing", "holds", "may_pass", "holders", "grant",
+                           "take_back", "restore", "would_lose", "chains"]},
+    "roles": {"all_roles": None, "roles": None, "missing_roles": None, "role_plan": None, "strange_role": None},
 }
 
 
