@@ -5,10 +5,12 @@ import itertools
 import random
 import unittest
 
-from helpers import draw_charter, draw_trusted, told
+from helpers import draw_charter, draw_trusted, told, walk
 from whoevermay.charters import Charter
 from whoevermay.errors import InvalidQuestion, TooMany, UnknownName
-from whoevermay.plans import check_plan
+from whoevermay.organisations import run
+from whoevermay.plans import check_plan, steps_of
+from whoevermay.questions import reachable_types
 from whoevermay.reach import Plan, can_come
 from whoevermay.roles import all_roles, missing_roles, role_plan, roles, strange_role
 
@@ -243,32 +245,51 @@ class Drawn(unittest.TestCase):
             rows = all_roles(charter)
             more = {"person": person, "trusted": trusted, "limit": limit}
 
-            def steps_of(role, person=person):
+            def fewest(role, person=person):
                 return self.steps(charter, role, person, trusted, limit)
 
             def strange():
                 for role in rows:
                     if role not in allowed:
-                        steps = steps_of(role, None)
+                        steps = fewest(role, None)
                         if steps is not None:
                             return role, steps
                 return None
 
             allowed = [role for role in rows if rng.random() < rng.choice([0.3, 0.95])]
             answers = [(told(lambda: roles(charter, **more)),
-                        told(lambda: [(role, steps) for role, steps in [(role, steps_of(role)) for role in rows] if steps is not None])),
-                       (told(lambda: missing_roles(charter, **more)), told(lambda: [role for role in rows if steps_of(role) is None])),
+                        told(lambda: [(role, steps) for role, steps in [(role, fewest(role)) for role in rows] if steps is not None])),
+                       (told(lambda: missing_roles(charter, **more)), told(lambda: [role for role in rows if fewest(role) is None])),
                        (told(lambda: strange_role(charter, allowed, trusted=trusted, limit=limit)), told(strange))]
             for answer, by_words in answers:
                 self.assertEqual(answer, by_words)
             found.append([answer for answer, _ in answers])
             role = rng.choice(rows)
             plan = told(lambda: role_plan(charter, rng.sample(role, len(role)), **more))
-            self.assertEqual(plan.steps if isinstance(plan, Plan) else plan, told(lambda: steps_of(role)))
+            self.assertEqual(plan.steps if isinstance(plan, Plan) else plan, told(lambda: fewest(role)))
         for answers in zip(*found):
             self.assertGreater(len([answer for answer in answers if isinstance(answer, str)]), 5)
             self.assertGreater(len([answer for answer in answers if not isinstance(answer, str)]), 50)
         self.assertGreater([row[2] for row in found].count(None), 20)
+
+
+    def test_nobody_ever_has_a_role_that_is_not_allowed(self):
+        """Points 101 and 104, along drawn walks."""
+        seen = 0
+        for seed in range(120):
+            rng = random.Random(seed)
+            charter = draw_charter(rng, rights=(2, 3))
+            trusted = draw_trusted(rng, charter)
+            found = dict(roles(charter, trusted=trusted))
+            self.assertEqual(list(found), reachable_types(charter, trusted=trusted))
+            self.assertIsNone(strange_role(charter, list(found), trusted=trusted))
+            actions, _ = walk(rng, charter, trusted, 10)
+            for many in range(len(actions) + 1):
+                office = run(charter, actions[:many], trusted=trusted)
+                for person in office.people:
+                    seen += 1
+                    self.assertLessEqual(found[office.holds(person)], steps_of(charter, actions[:many]))
+        self.assertGreater(seen, 1000)
 
 
 class Arguments(unittest.TestCase):
