@@ -186,6 +186,29 @@ class OpenedAndClosed(unittest.TestCase):
         with self.assertRaises(InvalidQuestion):
             opened_by(full, ("join", "j0", []))
 
+    def test_a_rule_that_is_too_short_for_a_name(self):
+        # The only part may be a name that a rule has, but it is not the name of this rule.
+        join = Charter(rights=["a"], rules=[("join", "join", []), ("join", "c1", [])])
+        for charter in (Charter(rights=["a"]), ABC, join):
+            for rule in ((), [], ("join",), ["join"], ("claim",), ("c1",), ("",)):
+                with self.assertRaises(InvalidCharter, msg=rule):
+                    opened_by(charter, rule)
+                with self.assertRaises(InvalidCharter, msg=rule):
+                    opened_by(charter, rule, trusted=["zoe"], limit=1)
+
+    def test_each_number_of_parts(self):
+        rules = [("join", "new", []), ("claim", "new", [], [], "b"), ("drop", "new", [], [], "b"), ("give", "new", [], [], [], "b"),
+                 ("take", "new", [], [], [], "b"), ("pass", "new", [], [], [], "s")]
+        charter = Charter(rights=["b", "s"], sole=["s"], rules=[("join", "old", [])])
+        for rule in rules:
+            self.assertIsInstance(opened_by(charter, rule), list)
+            for short in [*[rule[:many] for many in range(len(rule))], (*rule, "b")]:
+                with self.assertRaises(InvalidCharter, msg=short):
+                    opened_by(charter, short)
+            for short in [(rule[0], "old", *rule[2:many]) for many in range(2, len(rule))]:
+                with self.assertRaises(InvalidQuestion, msg=short):
+                    opened_by(charter, short)
+
     def test_a_name_that_is_not_there(self):
         for name in ("c2", "ann", "a", "", "No"):
             with self.assertRaises(UnknownName) as caught:

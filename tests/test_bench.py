@@ -151,7 +151,7 @@ class Changes(Benches):
     def test_rules_that_are_refused(self):
         bench = self.bench()
         for rule in [("claim", "grab", [], [], "nil"), ("none", "grab", []), ("join", "No", []), ("join", "grab", ["key"], []),
-                     ("pass", "p", [], [], [], "key")]:
+                     ("pass", "p", [], [], [], "key"), (), ("join",), ("join", "enter")]:
             self.assert_refused((InvalidCharter,), bench, "set_rule", "club", rule)
             self.assert_refused((UnknownName, "none"), bench, "set_rule", "none", rule)
         for at in range(10):
@@ -456,7 +456,8 @@ class SeveralChanges(Benches):
     # Changes that are possible one after another on the bench, and changes that are not, ahead of and behind them.
     GOOD = [("set_charter", "abbey", HUT), ("ask", "s", "abbey", [("cid", [], [])], ["cid"]), ("remove_rule", "club", "enter"),
             ("drop", "q"), ("set_rule", "hut", ("join", "come", []))]
-    BAD = [(("set_rule", "club", ("join", "j", ["nil"])), (InvalidCharter,)), (("set_rule", "none", DROP), (UnknownName, "none")),
+    BAD = [(("set_rule", "club", ("join", "j", ["nil"])), (InvalidCharter,)), (("set_rule", "hut", ("join",)), (InvalidCharter,)),
+           (("set_rule", "none", DROP), (UnknownName, "none")),
            (("remove_charter", "none"), (UnknownName, "none")), (("remove_charter", "hut"), (NameInUse, "hut")),
            (("remove_rule", "club", "none"), (UnknownName, "none")), (("ask", "t", "club", [], ["zoe"]), (InvalidGoal,)),
            (("ask", "t", "club", KEY, ["zoe"]), (UnknownName, "zoe")), (("ask", "t", "none", KEY, []), (UnknownName, "none")),

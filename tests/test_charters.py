@@ -229,7 +229,7 @@ class Changing(unittest.TestCase):
             self.assertEqual(changed.rules, tuple(rules))
 
     def test_rules_that_make_no_charter(self):
-        for rule in [("join", "j"), ("claim", "new", [], [], "seal"), ("claim", "c", [], [], "seal"),
+        for rule in [(), [], ("join",), ("j",), ("join", "j"), ("claim", "new", [], [], "seal"), ("claim", "c", [], [], "seal"),
                      ("claim", "New", [], [], "key"), ("claim", "", [], [], "key"), ("claim", "new", ["x"], [], "key"),
                      ("claim", "new", [], [], "x"), ("fire", "new", [], [], "key"), ("fire", "j"),
                      ("claim", "new", [], [], [], "key"), ("claim", "new", ["read", "read"], [], "key")]:

@@ -31,7 +31,8 @@ def no_longer_held(old, new, *, trusted=(), limit=2000):
 
 def opened_by(charter, rule, *, trusted=(), limit=2000):
     """The least sets of rights that nobody can come to hold before the charter has this rule, too."""
-    if rule[1] in charter.rule_names:
+    # A rule of fewer than two parts has no name that could be there, and the charter refuses it.
+    if len(rule) > 1 and rule[1] in charter.rule_names:
         raise InvalidQuestion("a rule of this name is there already")
     return newly_held(charter, charter.with_rule(rule), trusted=trusted, limit=limit)
 

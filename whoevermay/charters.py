@@ -94,7 +94,8 @@ def _check_right(kind, lists, right, sole):
 
 def _put(rows, at, new):
     """The rows with the new one, in the place of the one with the same name at this index."""
-    if new[at] not in [row[at] for row in rows]:
+    # A row that is too short has no name, and the charter that is made of the rows refuses it.
+    if len(new) <= at or new[at] not in [row[at] for row in rows]:
         return [*rows, new]
     return [new if row[at] == new[at] else row for row in rows]
 
